@@ -1,0 +1,1 @@
+"""Lotjoin: houses that join over their cheapest ways."""

@@ -1,0 +1,133 @@
+"""The rules of ../shared/LANGUAGE.md that can be read off a file: what it is made of, names, words and sizes."""
+
+import ast
+import builtins
+import pathlib
+import re
+import unittest
+
+PACKAGE = pathlib.Path(__file__).resolve().parent.parent / "lotjoin"
+FILES = sorted(path for path in PACKAGE.rglob("*") if "__pycache__" not in path.parts)
+
+NODES = set(
+    "Module FunctionDef ClassDef arguments arg Return Assign AugAssign For While If Raise Try ExceptHandler ImportFrom"
+    " alias Expr Pass Break Continue BoolOp And Or BinOp Add Sub Mult FloorDiv Mod Pow LShift RShift BitOr BitXor"
+    " BitAnd UnaryOp Invert Not USub UAdd Lambda IfExp Dict Set ListComp comprehension Compare Eq NotEq Lt LtE Gt GtE"
+    " Is IsNot In NotIn Call FormattedValue JoinedStr Constant Attribute Subscript Slice Name List Tuple Load Store"
+    " keyword".split()
+)
+BUILTINS = set(
+    "len range enumerate zip min max sum abs sorted reversed int str bool list tuple dict set frozenset isinstance"
+    " ord repr any all divmod Exception ValueError TypeError KeyError IndexError LookupError ZeroDivisionError"
+    " ArithmeticError OverflowError RuntimeError NotImplementedError AttributeError StopIteration".split()
+)
+DUNDERS = {"__init__", "__eq__", "__repr__", "__str__", "__len__"}
+WORDS = (
+    r"\b(type|typing|typing_extensions|enum|Enum|IntEnum|StrEnum|Flag|IntFlag|Generic|Protocol|ABC|ABCMeta"
+    r"|namedtuple|NamedTuple|TypedDict|TYPE_CHECKING|abstractmethod)\b|dataclass|overload|contextmanager"
+)
+PLAIN_TOP = (ast.ImportFrom, ast.FunctionDef, ast.ClassDef, ast.Assign)
+
+
+def bound_names(node):
+    if isinstance(node, ast.Name) and isinstance(node.ctx, ast.Store):
+        return [node.id]
+    if isinstance(node, ast.arg):
+        return [node.arg]
+    if isinstance(node, (ast.FunctionDef, ast.ClassDef)):
+        return [node.name]
+    return []
+
+
+def top_names(node):
+    if isinstance(node, ast.Assign):
+        return [node.targets[0].id]
+    if isinstance(node, ast.ImportFrom):
+        return [alias.name for alias in node.names]
+    return bound_names(node)
+
+
+def is_shadow(node, name):
+    # A method may be called like a name of Python's own.
+    return hasattr(builtins, name) and not isinstance(node, ast.FunctionDef)
+
+
+def read_all():
+    texts = [(path, path.read_text("utf-8")) for path in FILES]
+    return [(path, text, ast.parse(text, path.name)) for path, text in texts]
+
+
+def where(path, node):
+    return f"{path.name}:{getattr(node, 'lineno', 0)}"
+
+
+class Form(unittest.TestCase):
+    def test_files(self):
+        self.assertIn(PACKAGE / "__init__.py", FILES)
+        for path in FILES:
+            self.assertRegex(path.name, r"^([a-z][a-z0-9_]*|__init__|__main__)\.py$")
+
+    def test_signs_and_sizes(self):
+        for path, text, _ in read_all():
+            self.assertRegex(text, r"\A[ -~\n]*\Z", path.name)
+            lines = text.split("\n")
+            self.assertLessEqual(len(lines), 401, path.name)
+            self.assertLessEqual(max(len(line) for line in lines), 120, path.name)
+
+    def test_function_sizes(self):
+        for path, _, tree in read_all():
+            for node in ast.walk(tree):
+                if isinstance(node, ast.FunctionDef):
+                    self.assertLessEqual(node.end_lineno - node.lineno + 1, 40, where(path, node))
+
+    def test_words(self):
+        for path, text, _ in read_all():
+            self.assertIsNone(re.search(WORDS, text), path.name)
+
+    def test_nodes(self):
+        for path, _, tree in read_all():
+            for node in ast.walk(tree):
+                with self.subTest(where(path, node)):
+                    self.check_node(node)
+
+    def check_node(self, node):
+        self.assertIn(type(node).__name__, NODES)
+        if isinstance(node, ast.Constant):
+            self.assertIn(type(node.value), (int, str, bool, type(None)))
+        if isinstance(node, ast.Assign):
+            self.assertEqual(len(node.targets), 1)
+        if isinstance(node, (ast.For, ast.While)):
+            self.assertEqual(node.orelse, [])
+        if isinstance(node, ast.ListComp):
+            self.assertEqual(len(node.generators), 1)
+            self.assertLessEqual(len(node.generators[0].ifs), 1)
+
+    def test_tops(self):
+        for path, _, tree in read_all():
+            self.assertIsNotNone(ast.get_docstring(tree), path.name)
+            for node in tree.body[1:]:
+                self.assertIsInstance(node, PLAIN_TOP, where(path, node))
+            names = [name for node in tree.body for name in top_names(node)]
+            self.assertEqual(len(names), len(set(names)), path.name)
+
+    def test_imports(self):
+        modules = {f"lotjoin.{path.stem}" for path in FILES}
+        for path, _, tree in read_all():
+            for node in ast.walk(tree):
+                if isinstance(node, ast.ImportFrom):
+                    self.assertIn(node.module, modules - {f"lotjoin.{path.stem}"}, where(path, node))
+                    self.assertEqual(node.level, 0, where(path, node))
+                    self.assertNotIn("*", [alias.name for alias in node.names], where(path, node))
+
+    def test_names(self):
+        for path, _, tree in read_all():
+            for node in ast.walk(tree):
+                for name in bound_names(node):
+                    self.assertTrue(name in DUNDERS or re.match(r"[A-Za-z]\w*\Z", name), where(path, node))
+                    self.assertFalse(is_shadow(node, name), where(path, node))
+                if isinstance(node, ast.Name) and hasattr(builtins, node.id):
+                    self.assertIn(node.id, BUILTINS, where(path, node))
+
+
+if __name__ == "__main__":
+    unittest.main()
