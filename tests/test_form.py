@@ -1,4 +1,4 @@
-"""The rules of ../shared/LANGUAGE.md that can be read off a file: what it is made of, names, words and sizes."""
+"""Some of the rules of ../shared/LANGUAGE.md: what a file is made of, its names, words and sizes. Not all of them."""
 
 import ast
 import builtins
