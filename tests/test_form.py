@@ -26,6 +26,11 @@ WORDS = (
     r"\b(type|typing|typing_extensions|enum|Enum|IntEnum|StrEnum|Flag|IntFlag|Generic|Protocol|ABC|ABCMeta"
     r"|namedtuple|NamedTuple|TypedDict|TYPE_CHECKING|abstractmethod)\b|dataclass|overload|contextmanager"
 )
+METHODS = set(
+    "append clear copy count endswith extend find get index insert isalnum isalpha isdigit islower isspace isupper"
+    " items join keys ljust lower lstrip partition pop remove replace reverse rfind rjust rpartition rsplit rstrip"
+    " setdefault split splitlines startswith strip update upper values zfill bit_length".split()
+)
 PLAIN_TOP = (ast.ImportFrom, ast.FunctionDef, ast.ClassDef, ast.Assign)
 
 
@@ -118,6 +123,54 @@ class Form(unittest.TestCase):
                     self.assertIn(node.module, modules - {f"lotjoin.{path.stem}"}, where(path, node))
                     self.assertEqual(node.level, 0, where(path, node))
                     self.assertNotIn("*", [alias.name for alias in node.names], where(path, node))
+
+    def test_imports_come_from_where_names_are_defined(self):
+        tops = {f"lotjoin.{path.stem}": tree.body for path, _, tree in read_all()}
+        for path, _, tree in read_all():
+            for node in tree.body:
+                if isinstance(node, ast.ImportFrom):
+                    made = [part for part in tops[node.module] if not isinstance(part, ast.ImportFrom)]
+                    names = [name for part in made[1:] for name in top_names(part)]
+                    self.assertLessEqual({alias.name for alias in node.names}, set(names), where(path, node))
+
+    def test_every_import_is_used(self):
+        for path, _, tree in read_all():
+            used = {node.id for node in ast.walk(tree) if isinstance(node, ast.Name)}
+            for node in tree.body:
+                if isinstance(node, ast.ImportFrom):
+                    self.assertLessEqual({alias.name for alias in node.names}, used, where(path, node))
+
+    def test_no_two_files_draw_from_one_another(self):
+        drawn = {path.stem: set() for path in FILES}
+        for path, _, tree in read_all():
+            drawn[path.stem] = {node.module.split(".")[1] for node in tree.body if isinstance(node, ast.ImportFrom)}
+        while drawn:
+            free = {name for name, others in drawn.items() if not others & set(drawn)}
+            self.assertTrue(free, drawn)
+            drawn = {name: others for name, others in drawn.items() if name not in free}
+
+    def test_methods(self):
+        for path, _, tree in read_all():
+            for node in ast.walk(tree):
+                if isinstance(node, ast.Call) and isinstance(node.func, ast.Attribute):
+                    self.assertIn(node.func.attr, METHODS, where(path, node))
+
+    def test_is_stands_beside_none_and_truths(self):
+        for path, _, tree in read_all():
+            for node in ast.walk(tree):
+                if isinstance(node, ast.Compare) and isinstance(node.ops[0], (ast.Is, ast.IsNot)):
+                    sides = [node.left] + node.comparators
+                    plain = [side for side in sides if isinstance(side, ast.Constant)]
+                    self.assertTrue(any(side.value in (None, True, False) for side in plain), where(path, node))
+
+    def test_sets_are_not_kept(self):
+        for path, _, tree in read_all():
+            within = [node.args for node in ast.walk(tree) if isinstance(node, ast.Call)]
+            within += [[node.left] + node.comparators for node in ast.walk(tree) if isinstance(node, ast.Compare)]
+            spots = {id(spot) for spots in within for spot in spots}
+            for node in ast.walk(tree):
+                if isinstance(node, ast.Call) and isinstance(node.func, ast.Name) and node.func.id == "set":
+                    self.assertIn(id(node), spots, where(path, node))
 
     def test_names(self):
         for path, _, tree in read_all():

@@ -1,74 +1,12 @@
 import unittest
 
-from lotjoin.errors import NoWay, NoWeb
+from lotjoin.errors import NoWay
 from lotjoin.lots import lots_of, need_ways, weight_of
-from samples import FULL, ODD_THINGS, TOWN, WEBS, nested, some_ways, some_webs
+from reckon import lots_by_walks
+from refusals import RefusesWays
+from samples import FULL, TOWN, WEBS, some_ways, some_webs
 
 ALL = (need_ways, lots_of, weight_of)
-
-# Of TOWN, which has the ways 0 to 5: a list, and the place that is refused.
-REFUSED = (
-    ([-1], 0),
-    ([6], 0),
-    ([0, 1, 2, 3, 4, 5, 6], 6),
-    ([0, -1, 2], 1),
-    ([5, 6, 7], 1),
-    ([10 ** 30], 0),
-    ([0, 1, 2 ** 64], 2),
-    ([-(10 ** 30)], 0),
-    ([True], 0),
-    ([False], 0),
-    ([2, True], 1),
-    ([2, 3, False], 2),
-    ([True, 1], 0),
-    ([1, True], 1),
-    ([0, False], 1),
-    (["0"], 0),
-    ([0, "1", 2], 1),
-    ([0, ""], 1),
-    ([[]], 0),
-    ([0, [1]], 1),
-    ([0, 1, (2,)], 2),
-    ([()], 0),
-    ([None], 0),
-    ([4, 3, None], 2),
-    ([nested(list, 7, 1)], 0),
-    ([0, nested(tuple, 7, 1)], 1),
-    ([0, 0], 1),
-    ([1, 2, 1], 2),
-    ([5, 4, 3, 2, 1, 0, 5], 6),
-    # Two wrong things at once: the first of them.
-    ([0, 6, 0], 1),
-    ([0, 0, 6], 1),
-    ([None, True], 0),
-    ([3, 3, 3], 1),
-    ([1, 2, 2, 1], 2),
-    ([2, [], []], 1),
-    ([2, None, 2], 1),
-)
-
-NO_LISTS = (None, True, False, 0, 3, -1, 10 ** 30, "", "0", "abc", (), (0,), (0, 1), (6,), ((),), ([0],))
-
-
-def lots_by_walks(web, ways):
-    roads = {house: [] for house in range(web[0])}
-    for number in ways:
-        one, other, _ = web[1][number]
-        roads[one].append(other)
-        roads[other].append(one)
-    lots, seen = [], set()
-    for house in range(web[0]):
-        if house in seen:
-            continue
-        lot, ahead = {house}, [house]
-        while ahead:
-            for near in roads[ahead.pop()]:
-                if near not in lot:
-                    lot.add(near)
-                    ahead.append(near)
-        seen |= lot
-        lots.append(sorted(lot))
-    return lots
 
 
 class NeedWays(unittest.TestCase):
@@ -167,7 +105,9 @@ class WeightOf(unittest.TestCase):
                 self.assertEqual(weight_of(web, sorted(ways)), right)
 
 
-class Alike(unittest.TestCase):
+class Alike(RefusesWays, unittest.TestCase):
+    asks = ALL
+
     def test_the_list_stays_as_it_was(self):
         for ask in ALL:
             for web in WEBS:
@@ -175,61 +115,6 @@ class Alike(unittest.TestCase):
                     kept = list(ways)
                     ask(web, ways)
                     self.assertEqual(ways, kept)
-
-    def test_a_refused_list_stays_as_it_was(self):
-        for ask in ALL:
-            ways = [3, 1, [2], 1]
-            with self.assertRaises(NoWay):
-                ask(TOWN, ways)
-            self.assertEqual(ways, [3, 1, [2], 1])
-
-    def test_a_refusal_changes_nothing(self):
-        for ask in ALL:
-            right = ask(TOWN, [3, 1])
-            with self.assertRaises(NoWay):
-                ask(TOWN, [3, 1, 3])
-            self.assertEqual(ask(TOWN, [3, 1]), right)
-
-    def test_refused_with_the_place(self):
-        for ask in ALL:
-            for ways, place in REFUSED:
-                with self.subTest(ask.__name__, ways=ways):
-                    with self.assertRaises(NoWay) as caught:
-                        ask(TOWN, ways)
-                    self.assertEqual(caught.exception.place, place)
-                    self.assertIs(type(caught.exception.place), int)
-
-    def test_odd_things_behind_right_ones(self):
-        for ask in ALL:
-            for odd in ODD_THINGS:
-                for ahead in range(4):
-                    ways = list(range(5, 5 - ahead, -1)) + [odd]
-                    with self.subTest(ask.__name__, ways=ways):
-                        with self.assertRaises(NoWay) as caught:
-                            ask(TOWN, ways)
-                        self.assertEqual(caught.exception.place, ahead)
-
-    def test_no_list(self):
-        for ask in ALL:
-            for thing in NO_LISTS:
-                with self.subTest(ask.__name__, thing=thing):
-                    with self.assertRaises(NoWay) as caught:
-                        ask(TOWN, thing)
-                    self.assertEqual(caught.exception.place, 0)
-
-    def test_no_web(self):
-        for ask in ALL:
-            for web in ((0, ()), (13, ()), [2, ()], (2, []), (2, ((1, 0, 5),)), (True, ()), None, "", ()):
-                with self.subTest(ask.__name__, web=web), self.assertRaises(NoWeb):
-                    ask(web, [])
-
-    def test_no_web_goes_ahead(self):
-        for ask in ALL:
-            for ways in (None, (), "", [0, 0], [True], [99]):
-                with self.subTest(ask.__name__, ways=ways), self.assertRaises(NoWeb):
-                    ask((2, ((0, 1, -1),)), ways)
-                with self.subTest(ask.__name__, ways=ways), self.assertRaises(NoWeb):
-                    ask(None, ways)
 
 
 if __name__ == "__main__":

@@ -1,78 +1,8 @@
 import unittest
 
-from lotjoin.errors import NoWeb
 from lotjoin.webs import is_web, order_of
-from samples import FULL, ODD_THINGS, PAIRS, TOWN, WEBS, nested, some_webs
-
-MOST = 10 ** 9
-
-NO_WEBS = {
-    "no house": (0, ()),
-    "fewer than none": (-1, ()),
-    "thirteen houses": (13, ()),
-    "very many houses": (10 ** 30, ()),
-    "thirty-one ways": (12, tuple((one, other, 1) for one, other in PAIRS[:31])),
-    "all sixty-six ways": (12, tuple((one, other, 1) for one, other in PAIRS)),
-    "price below 0": (2, ((0, 1, -1),)),
-    "price above the most": (2, ((0, 1, MOST + 1),)),
-    "price far below": (2, ((0, 1, -(10 ** 30)),)),
-    "price far above": (2, ((0, 1, 10 ** 30),)),
-    "price a text": (2, ((0, 1, "1"),)),
-    "price None": (2, ((0, 1, None),)),
-    "price a tuple": (2, ((0, 1, (1,)),)),
-    "price a list": (2, ((0, 1, [1]),)),
-    "ends alike": (3, ((1, 1, 5),)),
-    "ends alike at 0": (1, ((0, 0, 5),)),
-    "ends turned about": (3, ((2, 1, 5),)),
-    "one below 0": (3, ((-1, 1, 5),)),
-    "both below 0": (3, ((-2, -1, 5),)),
-    "other no house": (3, ((0, 3, 5),)),
-    "both no houses": (3, ((3, 4, 5),)),
-    "a house that twelve have, three have not": (3, ((0, 11, 5),)),
-    "a way and one house": (1, ((0, 1, 5),)),
-    "end a text": (3, (("0", 1, 5),)),
-    "other end a text": (3, ((0, "1", 5),)),
-    "end None": (3, ((None, 1, 5),)),
-    "other end None": (3, ((0, None, 5),)),
-    "end a list": (3, (([0], 1, 5),)),
-    "other end a list": (3, ((0, [1], 5),)),
-    "both ends alike, unlike prices": (3, ((0, 1, 5), (1, 2, 5), (0, 1, 6))),
-    "both ends alike, like prices": (3, ((0, 1, 5), (0, 1, 5))),
-    "a list for the web": [2, ((0, 1, 5),)],
-    "a list for the ways": (2, [(0, 1, 5)]),
-    "an empty list for the ways": (2, []),
-    "a list for a way": (2, ([0, 1, 5],)),
-    "a list for the last way": (3, ((0, 1, 5), [1, 2, 5])),
-    "nothing in the web": (),
-    "a part fewer": (2,),
-    "a part more": (2, (), ()),
-    "a way's part fewer": (2, ((0, 1),)),
-    "a way's part more": (2, ((0, 1, 5, 5),)),
-    "a way of nothing": (2, ((),)),
-    "ways not in a tuple": (2, (0, 1, 5)),
-    "parts turned about": (((0, 1, 5),), 2),
-    "a truth for many": (True, ()),
-    "an untruth for many": (False, ()),
-    "a truth for one": (3, ((True, 2, 5),)),
-    "an untruth for one": (3, ((False, 2, 5),)),
-    "a truth for other": (3, ((0, True, 5),)),
-    "a truth for price": (3, ((0, 1, True),)),
-    "an untruth for price": (3, ((0, 1, False),)),
-    "a truth for ways": (3, True),
-    "a truth for a way": (3, (True,)),
-    "a text for many": ("2", ()),
-    "a text for ways": (2, ""),
-    "a text of three signs for a way": (2, ("011",)),
-    "a text of two signs for the web": "2(",
-    "None for many": (None, ()),
-    "None for ways": (2, None),
-    "None for a way": (2, (None,)),
-    "a wrong way behind right ones": (3, ((0, 1, 5), (0, 2, 5), (1, 2, -5))),
-    "a wrong way ahead of right ones": (3, ((0, 1, -5), (0, 2, 5), (1, 2, 5))),
-    "deep tuples for a way": (2, (nested(tuple, 6, 1),)),
-    "deep lists for an end": (2, ((nested(list, 5, 1), 1, 1),)),
-    "deep lists for both ends": (2, ((nested(list, 5, 1), nested(list, 5, 1), 1),)),
-}
+from refusals import RefusesNoWeb
+from samples import FULL, MOST, NO_WEBS, ODD_THINGS, PAIRS, TOWN, WEBS, some_webs
 
 
 class IsWeb(unittest.TestCase):
@@ -128,7 +58,9 @@ class IsWeb(unittest.TestCase):
         self.assertEqual(thing, [2, [[0, 1, 5]]])
 
 
-class OrderOf(unittest.TestCase):
+class OrderOf(RefusesNoWeb, unittest.TestCase):
+    asks = (order_of,)
+
     def test_by_price(self):
         self.assertEqual(order_of((4, ((0, 1, 30), (0, 2, 10), (0, 3, 20)))), [1, 2, 0])
 
@@ -176,14 +108,6 @@ class OrderOf(unittest.TestCase):
             self.assertIsNot(again, told)
             again.clear()
             self.assertEqual(order_of(web), kept)
-
-    def test_no_web(self):
-        for name, thing in NO_WEBS.items():
-            with self.subTest(name), self.assertRaises(NoWeb):
-                order_of(thing)
-        for thing in ODD_THINGS:
-            with self.subTest(thing=thing), self.assertRaises(NoWeb):
-                order_of(thing)
 
 
 if __name__ == "__main__":
