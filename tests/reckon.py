@@ -78,6 +78,12 @@ def greedy(web):
     return sorted(put_in)
 
 
+def greedy_but(web, closed):
+    """The forest of the ways that are not closed, by their numbers among all."""
+    numbers = [number for number in range(len(web[1])) if number not in closed]
+    return [numbers[place] for place in greedy((web[0], tuple(web[1][number] for number in numbers)))]
+
+
 def is_right(web, number, reason):
     word, numbers = reason
     if word == "cut":
@@ -98,3 +104,77 @@ def shows(web, forest, reasons):
     if [word for word, _ in reasons] != words:
         return False
     return all(is_right(web, number, reason) for number, reason in enumerate(reasons))
+
+
+def marks_by_lots(web, ways):
+    """The marks and counts by whole lots with their marks, or the place of the first that joins none."""
+    lots = {house: [house] for house in range(web[0])}
+    taken = [0] * web[0]
+    for place, number in enumerate(ways):
+        one, other, _ = web[1][number]
+        here = next(mark for mark, lot in lots.items() if one in lot)
+        there = next(mark for mark, lot in lots.items() if other in lot)
+        if here == there:
+            return place
+        kept, gone = min(here, there), max(here, there)
+        if len(lots[gone]) > len(lots[kept]):
+            kept, gone = gone, kept
+        for house in lots[gone]:
+            taken[house] += 1
+        lots[kept] = lots[kept] + lots.pop(gone)
+    marks = [next(mark for mark, lot in lots.items() if house in lot) for house in range(web[0])]
+    return (marks, taken)
+
+
+class SlowNight:
+    """A night by the words of points 13 to 16: lots walked anew and all marks kept."""
+
+    def __init__(self, web):
+        self.web, self.put_in, self.known, self.whole, self.searches = web, [], set(), set(), []
+
+    def lot(self, house):
+        return next(lot for lot in lots_by_walks(self.web, self.put_in) if house in lot)
+
+    def wake(self, house):
+        if house in self.whole:
+            self.searches.append(None)
+            return (None, 0)
+        lot, letters = self.lot(house), 0
+        for near in lot:
+            letters += 0 if near == house else 2
+            for number, way in enumerate(self.web[1]):
+                if near in way[:2] and number not in self.put_in and number not in self.known:
+                    letters += 2
+        for number, way in enumerate(self.web[1]):
+            if set(way[:2]) <= set(lot) and number not in self.put_in:
+                self.known.add(number)
+        out = sorted(outs(self.web, lot), key=lambda number: rank(self.web, number))
+        self.searches.append((lot, out[:1]))
+        return (None, letters)
+
+    def end(self, number):
+        (lot, found), self.searches[number] = self.searches[number], None
+        if not found:
+            letters = 0 if lot[0] in self.whole else len(lot) - 1
+            self.whole |= set(lot)
+            return (None, letters)
+        if found[0] in self.put_in:
+            return (None, 0)
+        ahead, _ = marks_by_lots(self.web, self.put_in)
+        self.put_in += found
+        behind, _ = marks_by_lots(self.web, self.put_in)
+        return (found[0], 1 + sum(one != other for one, other in zip(ahead, behind)))
+
+    def tell(self, event):
+        return self.wake(event[1]) if event[0] == "wake" else self.end(event[1])
+
+    def stand(self):
+        return (sorted(self.put_in), sorted(self.known), sorted(self.whole))
+
+    def under(self):
+        return [number for number, search in enumerate(self.searches) if search]
+
+
+def slow_night(web, events):
+    night = SlowNight(web)
+    return [night.tell(event) for event in events], night.stand()

@@ -31,6 +31,23 @@ METHODS = set(
     " items join keys ljust lower lstrip partition pop remove replace reverse rfind rjust rpartition rsplit rstrip"
     " setdefault split splitlines startswith strip update upper values zfill bit_length".split()
 )
+OUT_NAMES = set(
+    "register mro elements open input version_info with_traceback add_note attrgetter breakpoint builtins compile"
+    " copyright credits delattr dir eval exec exit gc getattr globals hasattr help id importlib license locals"
+    " methodcaller os quit setattr super type vars sys __name__ chr format format_map".split()
+)
+WALKERS = {"zip", "enumerate", "reversed", "range", "items", "keys", "values"}
+WALKING = {"list", "tuple", "dict", "sorted", "sum", "any", "all", "enumerate", "zip", "min", "max", "join"}
+KEYWORDS = {
+    "sorted": {"key", "reverse"},
+    "min": {"key", "default"},
+    "max": {"key", "default"},
+    "sum": {"start"},
+    "enumerate": {"start"},
+    "zip": {"strict"},
+}
+OWN_AS_PYTHONS = METHODS | {"add", "discard"}
+PYTHONS = {name for kind in (str, int, list, dict, set, bytes, tuple) for name in dir(kind)}
 PLAIN_TOP = (ast.ImportFrom, ast.FunctionDef, ast.ClassDef, ast.Assign)
 
 
@@ -55,6 +72,22 @@ def top_names(node):
 def is_shadow(node, name):
     # A method may be called like a name of Python's own.
     return hasattr(builtins, name) and not isinstance(node, ast.FunctionDef)
+
+
+def called_name(node):
+    return node.func.id if isinstance(node.func, ast.Name) else getattr(node.func, "attr", None)
+
+
+def class_parts(trees):
+    """All methods of the package's classes, and all values that their objects have."""
+    methods, values = set(), set()
+    for tree in trees:
+        for node in ast.walk(tree):
+            if isinstance(node, ast.ClassDef):
+                methods |= {part.name for part in node.body if isinstance(part, ast.FunctionDef)}
+            if isinstance(node, ast.Attribute) and isinstance(node.ctx, ast.Store):
+                values.add(node.attr)
+    return methods - DUNDERS, values
 
 
 def read_all():
@@ -150,10 +183,77 @@ class Form(unittest.TestCase):
             drawn = {name: others for name, others in drawn.items() if name not in free}
 
     def test_methods(self):
+        methods, _ = class_parts([tree for _, _, tree in read_all()])
         for path, _, tree in read_all():
             for node in ast.walk(tree):
                 if isinstance(node, ast.Call) and isinstance(node.func, ast.Attribute):
-                    self.assertIn(node.func.attr, METHODS, where(path, node))
+                    self.assertIn(node.func.attr, METHODS | methods, where(path, node))
+
+    def test_methods_and_values_of_classes(self):
+        methods, values = class_parts([tree for _, _, tree in read_all()])
+        self.assertEqual(methods & values, set())
+        self.assertEqual((methods - OWN_AS_PYTHONS) & PYTHONS, set())
+        self.assertEqual(values & PYTHONS, set())
+        self.assertEqual(values & {"args"}, set())
+
+    def test_class_bodies(self):
+        for path, _, tree in read_all():
+            for node in ast.walk(tree):
+                if isinstance(node, ast.ClassDef):
+                    self.assertLessEqual(len(node.bases), 1, where(path, node))
+                    self.assertEqual(node.decorator_list, [], where(path, node))
+                    names = [part.name for part in node.body if not isinstance(part, ast.Pass)]
+                    self.assertEqual(len(names), len(set(names)), where(path, node))
+
+    def test_names_that_are_out(self):
+        for path, _, tree in read_all():
+            for node in ast.walk(tree):
+                for name in (getattr(node, "id", None), getattr(node, "attr", None), getattr(node, "name", None)):
+                    self.assertNotIn(name, OUT_NAMES, where(path, node))
+
+    def test_locals_are_not_called_like_classes_or_imports(self):
+        for path, _, tree in read_all():
+            kinds = (ast.ImportFrom, ast.ClassDef)
+            taken = {name for node in tree.body if isinstance(node, kinds) for name in top_names(node)}
+            for node in ast.walk(tree):
+                if isinstance(node, (ast.Name, ast.arg)):
+                    self.assertEqual(taken & set(bound_names(node)), set(), where(path, node))
+
+    def test_keywords(self):
+        for path, _, tree in read_all():
+            for node in ast.walk(tree):
+                if isinstance(node, ast.Call):
+                    allowed = KEYWORDS.get(called_name(node), set())
+                    self.assertLessEqual({word.arg for word in node.keywords}, allowed, where(path, node))
+
+    def test_walkers_are_walked_on_the_spot(self):
+        for path, _, tree in read_all():
+            walked = {id(node.iter) for node in ast.walk(tree) if isinstance(node, (ast.For, ast.comprehension))}
+            calls = [node for node in ast.walk(tree) if isinstance(node, ast.Call)]
+            walked |= {id(part) for node in calls if called_name(node) in WALKING for part in node.args}
+            for node in calls:
+                if called_name(node) in WALKERS:
+                    self.assertIn(id(node), walked, where(path, node))
+
+    def test_handlers_take_own_errors(self):
+        for path, _, tree in read_all():
+            for node in ast.walk(tree):
+                if isinstance(node, ast.ExceptHandler):
+                    kinds = node.type.elts if isinstance(node.type, ast.Tuple) else [node.type]
+                    for kind in kinds:
+                        self.assertNotIn(kind.id, BUILTINS, where(path, node))
+                if isinstance(node, ast.Try):
+                    self.assertEqual(node.finalbody, [], where(path, node))
+                if isinstance(node, ast.Raise):
+                    self.assertIsInstance(node.exc, ast.Call, where(path, node))
+
+    def test_texts_and_powers(self):
+        for path, _, tree in read_all():
+            for node in ast.walk(tree):
+                if isinstance(node, ast.Constant) and isinstance(node.value, str):
+                    self.assertNotIn("%", node.value, where(path, node))
+                if isinstance(node, ast.BinOp) and isinstance(node.op, ast.Pow):
+                    self.assertIsInstance(node.right, ast.Constant, where(path, node))
 
     def test_is_stands_beside_none_and_truths(self):
         for path, _, tree in read_all():

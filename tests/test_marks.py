@@ -4,7 +4,7 @@ import unittest
 from lotjoin.errors import NoJoin, NoWay
 from lotjoin.forest import forest_of
 from lotjoin.marks import marks_of
-from reckon import lots_by_walks
+from reckon import lots_by_walks, marks_by_lots
 from refusals import RefusesWays
 from samples import FULL, MOST, TOWN, WEBS, small_webs, some_ways, some_webs
 
@@ -15,26 +15,6 @@ SIX = (6, tuple((one, other, 1) for one, other in ENDS))
 
 def over(*pairs):
     return [ENDS.index(pair) for pair in pairs]
-
-
-def marks_by_lots(web, ways):
-    """The marks and counts by whole lots with their marks, or the place of the first that joins none."""
-    lots = {house: [house] for house in range(web[0])}
-    taken = [0] * web[0]
-    for place, number in enumerate(ways):
-        one, other, _ = web[1][number]
-        here = next(mark for mark, lot in lots.items() if one in lot)
-        there = next(mark for mark, lot in lots.items() if other in lot)
-        if here == there:
-            return place
-        kept, gone = min(here, there), max(here, there)
-        if len(lots[gone]) > len(lots[kept]):
-            kept, gone = gone, kept
-        for house in lots[gone]:
-            taken[house] += 1
-        lots[kept] = lots[kept] + lots.pop(gone)
-    marks = [next(mark for mark, lot in lots.items() if house in lot) for house in range(web[0])]
-    return (marks, taken)
 
 
 def shuffled_forests(count):
