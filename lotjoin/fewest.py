@@ -4,7 +4,7 @@ from lotjoin.errors import TooMany
 from lotjoin.forest import forest_of
 from lotjoin.roads import is_rising, lot_at, ways_out
 from lotjoin.wakings import FIRST_STAND, ended, waked
-from lotjoin.webs import is_tuple_of, is_whole, need_web
+from lotjoin.webs import is_tuple_of, need_web
 
 MOST_HOUSES_HERE = 5
 MOST_WAYS_HERE = 8
@@ -83,10 +83,6 @@ def is_stand(web, thing):
     return all([may_know(web, thing, house) for house in thing[2]])
 
 
-def is_floor(web, thing):
-    return is_tuple_of(thing, 2) and is_stand(web, thing[0]) and is_whole(thing[1])
-
-
 def heights_of(floors):
     # Where a stand has several numbers the greatest needs the most, and serves wherever a lesser one would.
     heights = {}
@@ -111,7 +107,7 @@ def holds(web, heights, stand):
 
 def shows_few(web, number, floors):
     need_few(web)
-    if not all([is_floor(web, floor) for floor in floors]):
+    if not all([is_stand(web, floor[0]) for floor in floors]):
         return False
     heights = heights_of(floors)
     if FIRST_STAND not in heights or heights[FIRST_STAND] < number:

@@ -1,6 +1,9 @@
 """What the tests reckon for themselves, apart from the package."""
 
 import itertools
+import re
+
+NUMBER = r"(0|[1-9][0-9]{0,9})"
 
 
 def lots_by_walks(web, ways):
@@ -178,3 +181,65 @@ class SlowNight:
 def slow_night(web, events):
     night = SlowNight(web)
     return [night.tell(event) for event in events], night.stand()
+
+
+def with_price(web, number, price):
+    ways = list(web[1])
+    ways[number] = (*ways[number][:2], price)
+    return (web[0], tuple(ways))
+
+
+class SlowKeeper:
+    """All stands there were, the forest reckoned anew at each."""
+
+    def __init__(self, web):
+        self.stands = [(web, ())]
+
+    def web(self):
+        return self.stands[-1][0]
+
+    def closed(self):
+        return sorted(self.stands[-1][1])
+
+    def forest(self):
+        return greedy_but(*self.stands[-1])
+
+    def weight(self):
+        return weight(self.web(), self.forest())
+
+    def told(self, ahead):
+        gone = [number for number in ahead if number not in self.forest()]
+        come = [number for number in self.forest() if number not in ahead]
+        assert len(gone) <= 1 and len(come) <= 1
+        return (gone[0] if gone else None, come[0] if come else None)
+
+    def go(self, web, closed):
+        ahead = self.forest()
+        self.stands.append((web, closed))
+        return self.told(ahead)
+
+    def price(self, number, price):
+        return self.go(with_price(self.web(), number, price), self.stands[-1][1])
+
+    def close(self, number):
+        return self.go(self.web(), self.stands[-1][1] + (number,))
+
+    def free(self, number):
+        return self.go(self.web(), tuple(way for way in self.stands[-1][1] if way != number))
+
+    def back(self):
+        ahead = self.forest()
+        self.stands.pop()
+        return self.told(ahead)
+
+
+def web_by_form(text):
+    """The web that is written, None where there is none: by the form of the whole text, then by what a web is."""
+    if not re.fullmatch(f"{NUMBER}(,{NUMBER}-{NUMBER}:{NUMBER})*", text):
+        return None
+    many, *rest = map(int, re.findall("[0-9]+", text))
+    ways = tuple(zip(rest[::3], rest[1::3], rest[2::3]))
+    if not 1 <= many <= 12 or len(ways) > 30 or len({way[:2] for way in ways}) < len(ways):
+        return None
+    right = all(one < other < many and price <= 10 ** 9 for one, other, price in ways)
+    return (many, ways) if right else None

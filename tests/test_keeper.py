@@ -4,62 +4,12 @@ import unittest
 from lotjoin.errors import Closed, Free, LotError, NoPrice, NoWay, Nothing
 from lotjoin.forest import forest_of
 from lotjoin.keeper import Keeper
-from reckon import greedy_but, weight
+from reckon import SlowKeeper, greedy_but, weight, with_price
 from refusals import RefusesNoWeb
 from samples import FULL, MOST, ODD_THINGS, TOWN, WEBS, small_webs, some_webs
 
 TRIO = (3, ((0, 1, 1), (1, 2, 2), (0, 2, 3)))
 NO_PRICES = ODD_THINGS + (-1, MOST + 1, 10 ** 30, -(10 ** 30), [], [5])
-
-
-def with_price(web, number, price):
-    ways = list(web[1])
-    ways[number] = (*ways[number][:2], price)
-    return (web[0], tuple(ways))
-
-
-class SlowKeeper:
-    """All stands there were, the forest reckoned anew at each."""
-
-    def __init__(self, web):
-        self.stands = [(web, ())]
-
-    def web(self):
-        return self.stands[-1][0]
-
-    def closed(self):
-        return sorted(self.stands[-1][1])
-
-    def forest(self):
-        return greedy_but(*self.stands[-1])
-
-    def weight(self):
-        return weight(self.web(), self.forest())
-
-    def told(self, ahead):
-        gone = [number for number in ahead if number not in self.forest()]
-        come = [number for number in self.forest() if number not in ahead]
-        assert len(gone) <= 1 and len(come) <= 1
-        return (gone[0] if gone else None, come[0] if come else None)
-
-    def go(self, web, closed):
-        ahead = self.forest()
-        self.stands.append((web, closed))
-        return self.told(ahead)
-
-    def price(self, number, price):
-        return self.go(with_price(self.web(), number, price), self.stands[-1][1])
-
-    def close(self, number):
-        return self.go(self.web(), self.stands[-1][1] + (number,))
-
-    def free(self, number):
-        return self.go(self.web(), tuple(way for way in self.stands[-1][1] if way != number))
-
-    def back(self):
-        ahead = self.forest()
-        self.stands.pop()
-        return self.told(ahead)
 
 
 def all_of(keeper):
